@@ -1,0 +1,1 @@
+"""Two versions of one tree brought together."""
