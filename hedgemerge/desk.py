@@ -1,11 +1,13 @@
 """Calls in one list of numbers, and their answers in another."""
 
-from hedgemerge.errors import NoHedge, NoVersion, TooManyNodes
-from hedgemerge.trio import Trio, check_size, check_version, held_hedge
+from hedgemerge.deeds import Tally, told_fate
+from hedgemerge.errors import NoHedge, NoNode, NoVersion, TooManyNodes
+from hedgemerge.trio import Trio, check_version, held_hedge
 from hedgemerge.writer import hedge_form
 
 NO_HEDGE = -1
 NO_VERSION = -2
+NO_NODE = -4
 TOO_MANY_NODES = -5
 
 
@@ -71,12 +73,36 @@ def call_conflicts(trio, cursor):
     return answer
 
 
+def call_did(trio, cursor):
+    version = cursor.take_number()
+    check_version(version)
+    tally = Tally(trio.script(0, version))
+    return [tally.trees_put, tally.trees_dropped, tally.words_renewed, tally.trees_paired, tally.trees_alone]
+
+
+def call_fate(trio, cursor):
+    version = cursor.take_number()
+    path = cursor.take_row()
+    check_version(version)
+    return told_fate(trio.script(0, version), path)
+
+
+def call_distances(trio, cursor):
+    return [trio.script(0, 1).cost, trio.script(0, 2).cost, trio.script(1, 2).cost]
+
+
+def call_take(trio, cursor):
+    taker = cursor.take_number()
+    version = cursor.take_number()
+    check_version(taker)
+    check_version(version)
+    return [trio.set_version(taker, trio.held_outcome(version))]
+
+
 def call_settle(trio, cursor):
     version = cursor.take_number()
     check_version(version)
-    hedge = trio.outcome(version).hedge
-    check_size(hedge)
-    return [trio.set_all(hedge)]
+    return [trio.set_all(trio.held_outcome(version))]
 
 
 CALLS = {
@@ -85,6 +111,10 @@ CALLS = {
     2: call_form,
     3: call_merge,
     4: call_conflicts,
+    5: call_did,
+    6: call_fate,
+    7: call_distances,
+    8: call_take,
     9: call_settle,
 }
 
@@ -97,6 +127,8 @@ def answer_call(trio, cursor):
         return [NO_HEDGE]
     except NoVersion:
         return [NO_VERSION]
+    except NoNode:
+        return [NO_NODE]
     except TooManyNodes:
         return [TOO_MANY_NODES]
 

@@ -9,5 +9,9 @@ class NoVersion(Exception):
     """A number that is not that of a version."""
 
 
+class NoNode(Exception):
+    """A path that is not that of a node of the base, or leads into a tree that was dropped."""
+
+
 class TooManyNodes(Exception):
     """A hedge with more nodes than one may hold."""

@@ -14,12 +14,22 @@ class Pair:
         self.row = row
 
 
-class RowScript:
-    """What was done to a row: puts[k] are the trees put before tree k; fates[k] is its Pair, or None if dropped."""
+def pair_alone(tree):
+    return Pair(tree, True, False, None)
 
-    def __init__(self):
+
+class RowScript:
+    """What was done to a row: puts[k] are the trees put before tree k; fates[k] is its Pair, or None if dropped.
+
+    lead are the trees at the row's beginning that were left alone; the others are added one by one.
+    """
+
+    def __init__(self, cost, lead):
+        self.cost = cost
         self.puts = [[]]
         self.fates = []
+        for tree in lead:
+            self.add_fate(pair_alone(tree))
 
     def add_put(self, tree):
         self.puts[-1].append(tree)
@@ -34,9 +44,7 @@ def told_script(old, new):
 
 
 def grid_script(grid):
-    script = RowScript()
-    for tree in grid.lead:
-        script.add_fate(Pair(tree, True, False, None))
+    script = RowScript(grid.costs[0][0], grid.lead)
     i = 0
     j = 0
     while i < len(grid.old) or j < len(grid.new):
@@ -58,7 +66,7 @@ def grid_pair(grid, i, j):
     one = grid.old[i]
     other = grid.new[j]
     if same_tree(one, other):
-        return Pair(other, True, False, None)
+        return pair_alone(other)
     inner = grid.inner[i][j]
     row = told_script(one.kids, other.kids) if inner is None else grid_script(inner)
     return Pair(other, False, one.word != other.word, row)

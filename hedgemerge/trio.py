@@ -4,7 +4,7 @@ from hedgemerge.errors import NoVersion, TooManyNodes
 from hedgemerge.merger import Outcome
 from hedgemerge.reader import read_hedge
 from hedgemerge.script import told_script
-from hedgemerge.tree import hedge_size
+from hedgemerge.tree import hedge_size, same_hedge
 
 MOST_HELD_NODES = 200
 
@@ -26,27 +26,46 @@ def held_hedge(text):
 
 
 class Trio:
-    """hedges[0] is the base. scripts[w] is kept until what it was made from is replaced, as it is dear to make."""
+    """hedges[0] is the base, hedges[1] and hedges[2] are the versions.
+
+    scripts[(k, l)] is the told script from hedges[k] to hedges[l], kept until one of the two is another hedge, as it
+    is dear to make.
+    """
 
     def __init__(self):
         self.hedges = [[], [], []]
-        self.scripts = [None, None, None]
+        self.scripts = {}
 
     def set_all(self, hedge):
         self.hedges = [hedge, hedge, hedge]
-        self.scripts = [None, None, None]
+        self.scripts = {}
         return hedge_size(hedge)
 
     def set_version(self, number, hedge):
-        self.hedges[number] = hedge
-        self.scripts[number] = None
+        if not same_hedge(self.hedges[number], hedge):
+            self.hedges[number] = hedge
+            self.forget_scripts(number)
         return hedge_size(hedge)
 
-    def script(self, number):
-        if self.scripts[number] is None:
-            self.scripts[number] = told_script(self.hedges[0], self.hedges[number])
-        return self.scripts[number]
+    def forget_scripts(self, number):
+        kept = {}
+        for ends in self.scripts:
+            if number not in ends:
+                kept[ends] = self.scripts[ends]
+        self.scripts = kept
+
+    def script(self, one, other):
+        ends = (one, other)
+        if ends not in self.scripts:
+            self.scripts[ends] = told_script(self.hedges[one], self.hedges[other])
+        return self.scripts[ends]
 
     def outcome(self, number):
         """The outcome if the version of this number prevails."""
-        return Outcome(self.script(number), self.script(3 - number))
+        return Outcome(self.script(0, number), self.script(0, 3 - number))
+
+    def held_outcome(self, number):
+        """The outcome's hedge, which is to become a base or a version."""
+        hedge = self.outcome(number).hedge
+        check_size(hedge)
+        return hedge

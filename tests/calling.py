@@ -34,6 +34,22 @@ def conflicts():
     return [4]
 
 
+def did(number):
+    return [5, number]
+
+
+def fate(number, path):
+    return [6, number, len(path)] + list(path)
+
+
+def distances():
+    return [7]
+
+
+def take(taker, number):
+    return [8, taker, number]
+
+
 def settle(number):
     return [9, number]
 

@@ -1,5 +1,5 @@
-"""The document's words followed slowly: every script is tried. A tree is a tuple of "leaf" or "element", its word
-and its children's tuple; a hedge is a tuple of trees."""
+"""The document's words followed slowly. A tree is a tuple of "leaf" or "element", its word and its children's tuple;
+a hedge is a tuple of trees."""
 
 from functools import lru_cache
 
@@ -48,9 +48,27 @@ def cost(script):
     return sum(step_cost(step) for step in script)
 
 
+def told_by_trying(old, new):
+    """The told script, found among all scripts there are; for short rows alone."""
+    return min(every_script(old, new), key=lambda script: (cost(script), [RANKS[step[0]] for step in script]))
+
+
 @lru_cache(maxsize=None)
 def told(old, new):
-    return min(every_script(old, new), key=lambda script: (cost(script), [RANKS[step[0]] for step in script]))
+    """The told script, found step by step: the first of the steps with which a script of the least cost begins."""
+    scripts = []
+    if old and new and old[0][0] == new[0][0]:
+        scripts.append((("pair", old[0], new[0]),) + told(old[1:], new[1:]))
+    if old:
+        scripts.append((("drop", old[0], None),) + told(old[1:], new))
+    if new:
+        scripts.append((("put", None, new[0]),) + told(old, new[1:]))
+    # Of several least ones, min takes the first.
+    return min(scripts, key=cost, default=())
+
+
+def distance(old, new):
+    return cost(told(old, new))
 
 
 def did(old, new):
@@ -64,6 +82,41 @@ def did(old, new):
             fates.append(other)
             puts.append(())
     return puts, fates
+
+
+def tally(old, new):
+    """How many trees were put, dropped, named or written anew, paired, left alone."""
+    puts, fates = did(old, new)
+    counts = [sum(len(put) for put in puts), fates.count(None), 0, 0, 0]
+    for tree, other in zip(old, fates):
+        if other is not None:
+            here = [0, 0, int(tree[1] != other[1]), 1, int(tree == other)]
+            counts = [sum(parts) for parts in zip(counts, here, tally(tree[2], other[2]))]
+    return counts
+
+
+def fate(old, new, path):
+    """What became of the node at path, if its word is new, how many trees were put before it; None if there is none
+    or if it lies in a dropped one."""
+    if not path or not 0 <= path[0] < len(old):
+        return None
+    puts, fates = did(old, new)
+    tree, other = old[path[0]], fates[path[0]]
+    if len(path) > 1:
+        return None if other is None else fate(tree[2], other[2], path[1:])
+    before = len(puts[path[0]])
+    if other is None:
+        return [0, 0, before]
+    return [1 if tree == other else 2, int(tree[1] != other[1]), before]
+
+
+def paths(hedge):
+    """The paths of all nodes."""
+    found = []
+    for place, tree in enumerate(hedge):
+        found.append((place,))
+        found.extend((place,) + path for path in paths(tree[2]))
+    return found
 
 
 def outcome(old, one, two, prevails):

@@ -4,37 +4,13 @@ import random
 import unittest
 
 import oracle
-from calling import ask, conflicts, form, settle, three, told_conflicts, told_merge
+from calling import ask, conflicts, did, distances, fate, form, settle, take, three, told_conflicts, told_merge
+from growing import some_change, some_hedge
 
 
-def some_tree(source, depth):
-    if source.random() < 0.3:
-        return ("leaf", source.choice("xyz'\\"), ())
-    kids = some_hedge(source, depth - 1, 3) if depth > 1 and source.random() < 0.6 else ()
-    return ("element", source.choice("abc"), kids)
-
-
-def some_hedge(source, depth, most):
-    return tuple(some_tree(source, depth) for place in range(source.randint(0, most)))
-
-
-def some_change(source, hedge, depth):
-    """A hedge that is like the one handed in, but for a few trees."""
-    changed = []
-    for kind, word, kids in hedge:
-        chance = source.random()
-        if chance < 0.12:
-            continue
-        if chance < 0.24:
-            changed.append(some_tree(source, depth))
-        if chance > 0.8:
-            word = source.choice("xyz" if kind == "leaf" else "abc")
-        if kind == "element" and depth > 1:
-            kids = some_change(source, kids, depth - 1)
-        changed.append((kind, word, kids))
-    if source.random() < 0.15:
-        changed.append(some_tree(source, depth))
-    return tuple(changed[:5])
+def counted(hedge):
+    text = oracle.form(hedge)
+    return [len(text)] + list(text.encode())
 
 
 class AgainstTheWords(unittest.TestCase):
@@ -42,13 +18,33 @@ class AgainstTheWords(unittest.TestCase):
     def holds(self, old, one, two):
         calls = three(oracle.form(old), oracle.form(one), oracle.form(two))
         self.assertEqual(ask(calls), [[oracle.size(hedge)] for hedge in (old, one, two)])
+        for new in (one, two):
+            self.assertEqual(oracle.told(old, new), oracle.told_by_trying(old, new))
+        self.outcomes_hold(calls, old, one, two)
+        self.deeds_hold(calls, old, one, two)
+
+    def outcomes_hold(self, calls, old, one, two):
         for number in (1, 2):
             hedge, found = oracle.outcome(old, one, two, number)
+            nodes = [oracle.size(hedge)]
+            written = counted(hedge)
             self.assertEqual(told_merge(calls, number), (len(found), oracle.form(hedge)), calls)
             self.assertEqual(told_conflicts(calls), found, calls)
-            written = [len(oracle.form(hedge))] + list(oracle.form(hedge).encode())
             self.assertEqual(ask(calls + [settle(number), form(0), form(1), form(2), conflicts()])[3:],
-                             [[oracle.size(hedge)], written, written, written, [0]])
+                             [nodes, written, written, written, [0]])
+            self.assertEqual(ask(calls + [take(1, number), form(0), form(1), form(2)])[3:],
+                             [nodes, counted(old), written, counted(two)])
+            self.assertEqual(ask(calls + [take(2, number), form(0), form(1), form(2)])[3:],
+                             [nodes, counted(old), counted(one), written])
+
+    def deeds_hold(self, calls, old, one, two):
+        paths = oracle.paths(old)
+        for number, new in ((1, one), (2, two)):
+            self.assertEqual(ask(calls + [did(number)])[3], oracle.tally(old, new), calls)
+            fates = [oracle.fate(old, new, path) or [-4] for path in paths]
+            self.assertEqual(ask(calls + [fate(number, path) for path in paths])[3:], fates, calls)
+        expected = [oracle.distance(old, one), oracle.distance(old, two), oracle.distance(one, two)]
+        self.assertEqual(ask(calls + [distances()])[3], expected, calls)
 
     def test_hedges_that_have_nothing_to_do_with_one_another(self):
         source = random.Random(1)

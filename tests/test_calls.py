@@ -1,13 +1,18 @@
-"""What each call sets and answers, and what it refuses: promises 1, 2, 3, 4, 5 and 10."""
+"""What the calls set and answer, and what they refuse: promises 1, 2, 3, 4, 5 and 10, and the list of calls."""
 
 import unittest
 
-from calling import as_bytes, ask, base, conflicts, form, line, merge, settle, three, told_conflicts, told_form
-from calling import told_merge, version
+from calling import as_bytes, ask, base, conflicts, did, distances, fate, form, line, merge, settle, take, three
+from calling import told_conflicts, told_form, told_merge, version
 from hedgemerge.desk import answers
 
 NO_VERSIONS = (0, -1, 3, 4, -2, 10 ** 18, -10 ** 18)
 MANY = " ".join(["a"] * 201)
+
+
+ALL_TEN = three("a(b 'x' c)", "a(b 'y')", "d(b 'z' c e)") + [
+    merge(1), merge(1), conflicts(), form(1), did(1), did(2), fate(1, [0, 2]), fate(2, [0, 1]), fate(2, [0] * 100),
+    distances(), take(2, 1), distances(), base("("), take(0, 1), settle(2), version(1, "a"), merge(2), did(1)]
 
 
 def counted(text):
@@ -28,6 +33,12 @@ class Beginning(unittest.TestCase):
     def test_conflicts_in_the_list_of_answers(self):
         calls = line(three("a(b 'x' c)", "a(b 'y')", "d(b 'z' c e)") + [conflicts()])
         self.assertEqual(answers(calls), [1, 4, 1, 3, 1, 5, 5, 1, 3, 2, 0, 1])
+
+    def test_the_calls_5_to_9_in_the_lists(self):
+        text = as_bytes("a(b)")
+        calls = [0, 4] + text + [1, 2, 4, 97, 32, 99, 100] + [5, 2, 6, 2, 2, 0, 0, 6, 1, 0, 6, 0, 1, 5, 7, 8, 1, 2, 9, 1]
+        self.assertEqual(answers(calls), [1, 2, 1, 2] + [5, 1, 1, 0, 1, 0] + [3, 0, 0, 0] + [1, -4] + [1, -2]
+                         + [3, 0, 2, 2] + [1, 2] + [1, 2])
 
 
 class Setting(unittest.TestCase):
@@ -65,8 +76,9 @@ class Refusals(unittest.TestCase):
     def stays(self, call, refusal):
         """The call is refused, and everything is as it was: the calls behind it are answered as without it."""
         before = three("a(b 'x' c)", "a(b 'y')", "d(b 'z' c e)")
-        behind = [form(0), form(1), form(2), merge(1), merge(2), conflicts(), settle(2), form(0)]
-        for asked in ([], [merge(1)]):
+        behind = [form(0), form(1), form(2), merge(1), merge(2), conflicts(), did(1), did(2), fate(1, [0, 1]),
+                  fate(2, [0, 2]), distances(), take(2, 1), distances(), settle(2), form(0)]
+        for asked in ([], [merge(1)], [did(2), distances()]):
             plain = ask(before + asked + behind)
             refused = ask(before + asked + [call] + behind)
             place = len(before + asked)
@@ -97,6 +109,22 @@ class Refusals(unittest.TestCase):
     def test_merge(self):
         for number in NO_VERSIONS:
             self.stays(merge(number), -2)
+
+    def test_did(self):
+        for number in NO_VERSIONS:
+            self.stays(did(number), -2)
+
+    def test_fate(self):
+        for number in NO_VERSIONS:
+            self.stays(fate(number, [0]), -2)
+        for path in ([], [1], [-1], [0, 3], [0, 1, 0], [10 ** 18], [0] * 100):
+            self.stays(fate(1, path), -4)
+            self.stays(fate(2, path), -4)
+
+    def test_take(self):
+        for number in NO_VERSIONS:
+            self.stays(take(number, 1), -2)
+            self.stays(take(2, number), -2)
 
     def test_settle(self):
         for number in NO_VERSIONS:
@@ -146,34 +174,49 @@ class Settling(unittest.TestCase):
             self.assertEqual(ask(calls + [settle(number)])[-1], [-2])
 
 
+class OnlyRead(list):
+    """A list that fails where it is changed."""
+
+    def fail(self, *arguments):
+        raise AssertionError("the list handed in is changed")
+
+    append = clear = extend = insert = pop = remove = reverse = sort = fail
+    __setitem__ = __delitem__ = __iadd__ = __imul__ = fail
+
+
 class HandedIn(unittest.TestCase):
 
     def test_the_list_stays_and_asking_twice_is_the_same(self):
-        calls = line(three("a(b 'x' c)", "a(b 'y')", "d(b 'z' c e)")
-                     + [merge(1), merge(1), conflicts(), form(1), base("("), settle(2), version(1, "a"), merge(2)])
+        calls = line(ALL_TEN)
         kept = list(calls)
         first = answers(calls)
         self.assertEqual(calls, kept)
         self.assertEqual(answers(calls), first)
         self.assertEqual(calls, kept)
-        self.assertEqual(answers(line([form(0), form(1), form(2)])), [1, 0, 1, 0, 1, 0])
+        self.assertEqual(answers(line([form(0), form(1), form(2), distances()])), [1, 0, 1, 0, 1, 0, 3, 0, 0, 0])
+
+    def test_the_list_is_not_changed_for_a_while_either(self):
+        calls = line(ALL_TEN)
+        self.assertEqual(answers(OnlyRead(calls)), answers(calls))
 
     def test_what_is_given_back_is_the_askers_own(self):
-        calls = line(three("a", "b", "c") + [form(1), merge(1), conflicts()])
+        calls = line(ALL_TEN)
         first = answers(calls)
         kept = list(first)
         first.clear()
         self.assertEqual(answers(calls), kept)
 
     def test_whole_numbers_are_given_back(self):
-        calls = line(three("a(b)", "a(c d)", "") + [form(1), merge(1), merge(2), conflicts(), settle(1)])
-        self.assertEqual({type(number) for number in answers(calls)}, {int})
+        given = answers(line(ALL_TEN))
+        self.assertEqual(type(given), list)
+        self.assertEqual({type(number) for number in given}, {int})
 
     def test_asking_does_not_change_the_answers(self):
         calls = three("a(b 'x' c)", "a(b 'y')", "d(b 'z' c e)")
-        asked = [form(0), merge(1), conflicts(), form(1), merge(2), form(2)]
+        asked = [form(0), merge(1), conflicts(), form(1), merge(2), form(2), did(1), fate(2, [0, 1]), distances(),
+                 did(2), fate(1, [0, 2])]
         twice = ask(calls + asked + asked)[3:]
-        self.assertEqual(twice[:6], twice[6:])
+        self.assertEqual(twice[:11], twice[11:])
 
 
 if __name__ == "__main__":

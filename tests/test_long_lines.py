@@ -3,7 +3,8 @@
 import random
 import unittest
 
-from calling import MOST_NUMBERS, as_bytes, ask, base, conflicts, form, line, merge, settle, three, version
+from calling import MOST_NUMBERS, as_bytes, ask, base, conflicts, did, distances, fate, form, line, merge, settle
+from calling import take, three, version
 from hedgemerge.desk import answers
 
 
@@ -94,9 +95,30 @@ class LongLines(unittest.TestCase):
     def test_a_line_is_its_calls_one_after_the_other(self):
         source = random.Random(5)
         before = three(*[some_text(source, 200, 4) for which in range(3)])
-        asked = [merge(1), merge(2), conflicts(), form(0), form(1), form(2)]
+        asked = [merge(1), merge(2), conflicts(), form(0), form(1), form(2), did(1), did(2), fate(1, [0]), distances()]
         alone = [ask(before + [call])[-1] for call in asked]
-        self.same(ask(before + asked * 60)[3:], alone * 60)
+        self.same(ask(before + asked * 39)[3:], alone * 39)
+
+    def test_400_deeds_of_200_nodes(self):
+        before = three("a(b)" * 100, "c(d)" * 100, "k " + "a(b)" * 99)
+        asked = [did(1), did(2), fate(1, [99, 0]), fate(2, [98]), fate(2, [99]), distances()]
+        told = [[0, 0, 200, 200, 0], [0, 1, 1, 199, 198], [2, 1, 0], [1, 0, 0], [1, 0, 0], [200, 2, 200]]
+        self.same(ask(before + asked * 66)[3:], told * 66)
+
+    def test_taken_again_and_again(self):
+        text = flat("c(d)", 100)
+        calls = three("a(b)" * 100, text, "a(b)" * 100) + [take(1, 1)] * 198 + [take(2, 2)] * 198 + [form(2)]
+        self.same(ask(calls)[3:], [[200]] * 396 + [[len(text)] + as_bytes(text)])
+
+    def test_taken_until_it_is_too_large(self):
+        calls = three("", "a", "b") + [take(1, 1), distances()] * 198
+        expected = []
+        for turn in range(198):
+            expected += [[turn + 2], [turn + 2, 1, turn + 1]]
+        self.same(ask(calls)[3:], expected)
+        calls = three("", flat("a", 100), "b") + [take(1, 2)] * 110 + [did(1), did(2), settle(2), settle(1)]
+        self.same(ask(calls)[3:], [[101 + turn] for turn in range(100)] + [[-5]] * 10
+                  + [[200, 0, 0, 0, 0], [1, 0, 0, 0, 0], [-5], [-5]])
 
 
 if __name__ == "__main__":
